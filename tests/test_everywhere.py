@@ -1,0 +1,144 @@
+"""What holds everywhere [2]: nothing that is given is changed, nothing that can change is shared."""
+
+import copy
+import unittest
+
+from quickways import kinds, names, trees
+from quickways.castfaults import fork_faults
+from quickways.castways import MiddleCasts, RowCasts
+from quickways.cells import AddressLoans, CopyLoans
+from quickways.charts import ChartExits, chart_of
+from quickways.checkrows import CheckRow
+from quickways.errors import QuickError
+from quickways.lending import alias_faults, name_faults, task_faults, watched_faults
+from quickways.loandeeds import both_ways, first_untidy, parted_read, play, straightened, surrounded
+from quickways.middles import Middle
+from quickways.mixtures import Mixture, all_mixtures
+from quickways.odds import blamed_texts, fork_row, normal_row, odd_pairs, parting_value, trimmed
+from quickways.piles import StackExits
+from quickways.programs import Program
+from quickways.reach import Reach, regions
+from tests.helper import PRINT, RETURN, WISH, call, fun, lent, lent_param, lit, main, name, place, start, wait
+
+PLACES = (place("a", 5, "nat"), place("b"))
+FUNS = (main(("let", "x", None, lit(1)), start("t", "f", lent("a")), call("f", lent("b")), wait("t")),
+        fun("f", (lent_param("p", "num"),), ("narrow", "p", "small"), ("loop", 2, (PRINT,)), ("defer", "done", ("print", lit(1))),
+            ("print", name("p")), RETURN))
+WATCHES = (("watch", "a", WISH),)
+DEEDS = [("begin", "k", "a"), ("write", "k", 2), ("read", "a"), ("over", "k"), ("read", "a")]
+STORE = [("a", 1), ("b", "red")]
+CASTS = [("nat", None, "x"), ("small", "nat", "y"), (None, None, "z")]
+
+
+class TestNothingIsModified(unittest.TestCase):
+    def setUp(self):
+        self.given = (PLACES, FUNS, WATCHES, DEEDS, STORE, CASTS)
+        self.before = copy.deepcopy(self.given)
+
+    def tearDown(self):
+        self.assertEqual(self.given, self.before)
+
+    def test_programs(self):
+        made = Program(PLACES, FUNS, WATCHES)
+        twin = Program(*copy.deepcopy((PLACES, FUNS, WATCHES)))
+        reach = Reach(made)
+        for text in ("main", "f"):
+            made.own_names(text).append("more")
+            for word in ("named", "uses", "sets", "lends", "asks"):
+                getattr(reach, word)(text)
+            for number, _, row in trees.numbered_rows(made.fun(text)):
+                made.with_rows(text, number, (row,))
+                trees.replace_row(made.fun(text), number, (PRINT, row))
+                reach.row_uses(text, number)
+            regions(made.fun(text)).clear()
+            chart_of(made.fun(text))
+            ChartExits().due("0:0", made.fun(text), 9).clear()
+        for found in (fork_faults(made), alias_faults(made), name_faults(made, reach), watched_faults(made),
+                      task_faults(made, reach)):
+            found.clear()
+        list(made.rows()).clear()
+        with self.assertRaises(QuickError):
+            made.with_rows("main", 2, ())
+        self.assertEqual(made, twin)
+        self.assertEqual((made.places, made.funs, made.watches, made.weight), (PLACES, FUNS, WATCHES, twin.weight))
+        self.assertEqual(reach.uses("main"), Reach(twin).uses("main"))
+
+    def test_loans(self):
+        for kind in (AddressLoans, CopyLoans):
+            store = list(STORE)
+            loans = kind(store)
+            store.clear()
+            self.assertEqual(loans.value_at("b"), "red")
+            play(loans, DEEDS[:2])
+            loans.loans_on("a").clear()
+            loans.open_loans().clear()
+            self.assertEqual((loans.loans_on("a"), loans.open_loans()), (["k"], ["k"]))
+            other = kind(STORE)
+            self.assertEqual((other.value_at("a"), other.open_loans()), (1, []))
+
+    def test_loan_deeds(self):
+        for made in (straightened(STORE, DEEDS), surrounded(STORE, DEEDS, mark=7), list(both_ways(STORE, DEEDS))):
+            made.clear()
+        first_untidy(STORE, DEEDS)
+        parted_read(STORE, DEEDS)
+        tidy = DEEDS[:1]
+        straightened(STORE, tidy).clear()
+        self.assertEqual(tidy, DEEDS[:1])
+
+    def test_views(self):
+        for kind in (CheckRow, Middle):
+            view = kind(*CASTS)
+            other = kind(*CASTS)
+            view.lent("bit", "bit", "more")
+            _ = view + other.lent("bit", None, "more")
+            for function in (blamed_texts, normal_row):
+                function(view)
+            parting_value(view, view.lent("bit", "bit", "more"))
+            self.assertEqual(view, other)
+        row = CheckRow(*CASTS)
+        trimmed(row)
+        Middle.of(row)
+        _ = ~row
+        self.assertEqual(row, CheckRow(*CASTS))
+        for ways in (RowCasts(), MiddleCasts()):
+            ways.fresh().lent("nat", None, "x")
+            self.assertEqual(len(ways.fresh()), 0)
+
+    def test_mixtures(self):
+        made = Mixture.of("casts")
+        twin = made.twin()
+        for other in all_mixtures():
+            made.parts_from(other)
+        _ = (~made, made ^ "loans", made.quick_parts(), str(made), made.number)
+        self.assertEqual(made, twin)
+
+    def test_exits(self):
+        exits = StackExits()
+        exits.note("0:0", 1, "done", ("print", lit(1)), 1)
+        exits.due("0:1", FUNS[1], 4).append(None)
+        self.assertEqual(exits.room, 1)
+        exits.due("0:0", FUNS[1], 4).append(None)
+        self.assertEqual((exits.room, exits.due("0:0", FUNS[1], 4)), (0, []))
+
+    def test_new_lists(self):
+        odd_pairs().clear()
+        self.assertEqual(len(odd_pairs()), 5)
+
+
+class TestIntegers(unittest.TestCase):
+    def test_integers_are_never_true_or_false(self):
+        made = Program(PLACES, FUNS, WATCHES)
+        loans = CopyLoans(STORE)
+        loans.begin("k", "a")
+        exits = StackExits()
+        exits.note("0:0", 1, "done", ("print", lit(1)), 1)
+        _, value = fork_row("nat", "small")
+        found = [kinds.atom_of(1), names.read_value("1"), made.weight, trees.size_of(FUNS[1][4]), loans.room, exits.room,
+                 AddressLoans(STORE).room, ChartExits().room, Mixture.of("casts").number, len(Middle(*CASTS)), value]
+        found += [mixture.number for mixture in all_mixtures()]
+        found += [number for number, _, _ in trees.numbered_rows(FUNS[0])]
+        self.assertEqual({type(number) for number in found}, {int})
+
+
+if __name__ == "__main__":
+    unittest.main()

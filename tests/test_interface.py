@@ -1,0 +1,81 @@
+"""The names and arguments that the interface lists stand in the files under which it lists them."""
+
+import ast
+import unittest
+from pathlib import Path
+
+FOLDER = Path(__file__).resolve().parent.parent / "quickways"
+
+# A function with its arguments as they are written, or a class with its methods.
+FUNCTIONS = {
+    "names": ["is_word(text)", "is_name(text)", "is_literal(value)", "show_value(value)", "read_value(text, line=1)",
+              "label_of(fun, number)", "task_text(path)"],
+    "kinds": ["atom_of(value)", "atoms_of(kind)", "fits(value, kind)", "under(kind, other)", "meet(kind, other)",
+              "join(kind, other)", "least_kind(value)", "at_odds(kind, other)"],
+    "trees": ["numbered_rows(fun)", "row_at(fun, number)", "replace_row(fun, number, rows)", "size_of(rows)",
+              "closes(rows)", "names_read(row)", "names_set(row)", "names_lent(row)"],
+    "reach": ["regions(fun)"],
+    "mixtures": ["all_mixtures()"],
+    "odds": ["odd_pairs()", "has_odds(row)", "trimmed(row)", "fork_row(kind, other, *, direction='reading')",
+             "parting_value(view, other)", "alike(view, other)", "blamed_texts(view)", "normal_row(view)"],
+    "castfaults": ["fork_faults(program)"],
+    "loandeeds": ["play(loans, deeds)", "both_ways(places, deeds)", "parted_read(places, deeds)",
+                  "first_untidy(places, deeds)", "surrounded(places, deeds, *, mark)", "straightened(places, deeds)"],
+    "lending": ["alias_faults(program)", "name_faults(program, reach)", "watched_faults(program)",
+                "task_faults(program, reach)"],
+    "charts": ["chart_of(fun)", "show_chart(fun)"],
+}
+LOANS = ["__init__(self, places)", "begin(self, key, target)", "value_at(self, spot)", "set_at(self, spot, value)",
+         "over(self, key)", "root(self, spot)", "loans_on(self, spot)", "open_loans(self)", "room(self)"]
+EXITS = ["note(self, frame, number, guard, deed, value)", "due(self, frame, fun, position)", "room(self)"]
+VIEW = ["__init__(self, *casts)", "lent(self, read, write, label)", "reading(self, value)", "writing(self, value)"]
+CLASSES = {
+    ("programs", "Program"): [
+        "__init__(self, places, funs, watches)", "fun(self, name)", "place_names(self)", "is_place(self, name)",
+        "is_lent(self, fun, name)", "kind(self, fun, name)", "result(self, fun)", "own_names(self, fun)", "rows(self)",
+        "view_checks(first, second)", "lend_checks(self, fun, name, other, param)", "narrow_checks(self, fun, name, kind)",
+        "with_rows(self, fun, number, rows)"],
+    ("reach", "Reach"): [
+        "__init__(self, program)", "points(self, fun, param)", "named(self, fun)", "uses(self, fun)", "sets(self, fun)",
+        "lends(self, fun)", "asks(self, fun)", "row_uses(self, fun, number)", "row_sets(self, fun, number)",
+        "row_lends(self, fun, number)"],
+    ("mixtures", "Mixture"): [
+        "__init__(self, *, casts='plain', loans='plain', exits='plain', tasks='plain', watch='plain')",
+        "of(cls, *parts)", "numbered(cls, number)", "read(cls, text)", "number(self)", "quick_parts(self)",
+        "parts_from(self, other)", "twin(self)"],
+    ("checkrows", "CheckRow"): VIEW,
+    ("middles", "Middle"): VIEW + ["of(cls, row)", "read_labels(self)", "write_labels(self)", "check_row(self)"],
+    ("castways", "RowCasts"): ["fresh(self)"],
+    ("castways", "MiddleCasts"): ["fresh(self)"],
+    ("cells", "AddressLoans"): LOANS,
+    ("cells", "CopyLoans"): LOANS,
+    ("piles", "StackExits"): EXITS,
+    ("charts", "ChartExits"): EXITS,
+}
+
+
+def tree_of(module):
+    return ast.parse((FOLDER / f"{module}.py").read_text())
+
+
+def heads(body):
+    return [f"{node.name}({ast.unparse(node.args)})" for node in body if isinstance(node, ast.FunctionDef)]
+
+
+class TestInterface(unittest.TestCase):
+    def test_functions(self):
+        for module, wanted in FUNCTIONS.items():
+            found = heads(tree_of(module).body)
+            for head in wanted:
+                self.assertIn(head, found, module)
+
+    def test_classes(self):
+        for (module, name), wanted in CLASSES.items():
+            (made,) = [node for node in tree_of(module).body if isinstance(node, ast.ClassDef) and node.name == name]
+            found = heads(made.body)
+            for head in wanted:
+                self.assertIn(head, found, (module, name))
+
+
+if __name__ == "__main__":
+    unittest.main()
