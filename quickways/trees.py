@@ -115,18 +115,41 @@ def inner_lists(row):
     return ()
 
 
+def listed_rows(rows, number):
+    """The tuples (number, row) of a rows list whose first row has this number, inner rows left out."""
+    found = []
+    for row in rows:
+        found.append((number, row))
+        number += size_of((row,))
+    return found
+
+
+def inner_listed(number, row):
+    """The rows lists inside a row of this number, each as a list of tuples (number, row)."""
+    found = []
+    first = number + 1
+    for inner in inner_lists(row):
+        found.append(listed_rows(inner, first))
+        first += size_of(inner)
+    return found
+
+
+def stands_in(number, rows, first):
+    """Whether a number is that of a row of a rows list, at any depth, whose first row has the number `first`."""
+    return first <= number < first + size_of(rows)
+
+
 def numbered_lists(rows, number=1):
     """All rows lists of a rows list whose first row has this number.
 
     Each is a list of tuples (number, row), the outer list stands first."""
-    own = []
+    own = listed_rows(rows, number)
     inside = []
-    for row in rows:
-        own.append((number, row))
-        number += 1
+    for at, row in own:
+        first = at + 1
         for inner in inner_lists(row):
-            inside.extend(numbered_lists(inner, number))
-            number += size_of(inner)
+            inside.extend(numbered_lists(inner, first))
+            first += size_of(inner)
     return [own] + inside
 
 

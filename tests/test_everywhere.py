@@ -4,20 +4,28 @@ import copy
 import unittest
 
 from quickways import kinds, names, trees
+from quickways.bodywalks import parted_walk, probe_walk, stack_due, visit_bounds, walks
 from quickways.castfaults import fork_faults
 from quickways.castways import MiddleCasts, RowCasts
 from quickways.cells import AddressLoans, CopyLoans
 from quickways.charts import ChartExits, chart_of
 from quickways.checkrows import CheckRow
 from quickways.errors import QuickError
+from quickways.exitfaults import branch_faults, loop_faults, stale_faults
 from quickways.lending import alias_faults, name_faults, task_faults, watched_faults
 from quickways.loandeeds import both_ways, first_untidy, parted_read, play, straightened, surrounded
 from quickways.middles import Middle
 from quickways.mixtures import Mixture, all_mixtures
 from quickways.odds import blamed_texts, fork_row, normal_row, odd_pairs, parting_value, trimmed
+from quickways.picking import WaitTasks, WovenTasks
 from quickways.piles import StackExits
 from quickways.programs import Program
 from quickways.reach import Reach, regions
+from quickways.sharing import ask_faults, clashes, share_faults
+from quickways.stillness import still_faults, stilled, stumble
+from quickways.traces import alike_to, exchanges, layers, longest_chain, normal, parting_pair, swaps, trace_of
+from quickways.weavings import next_picks
+from quickways.wishes import Wish, difference
 from tests.helper import PRINT, RETURN, WISH, call, fun, lent, lent_param, lit, main, name, place, start, wait
 
 PLACES = (place("a", 5, "nat"), place("b"))
@@ -26,13 +34,18 @@ FUNS = (main(("let", "x", None, lit(1)), start("t", "f", lent("a")), call("f", l
             ("print", name("p")), RETURN))
 WATCHES = (("watch", "a", WISH),)
 DEEDS = [("begin", "k", "a"), ("write", "k", 2), ("read", "a"), ("over", "k"), ("read", "a")]
+RECORDS = [("0", "row", "main", 1, "", ("a",), ("task 0",)), ("0.1", "row", "f", 1, "", (), ("b", "task 0.1"))]
+TABLE = [[1, 1, 0, 0, 0, 0], [0, 0, 1, 1, 1, 1]]
+GOOD = [1]
+PICKS = [0, 1]
+WAITS = {(): (1,)}
 STORE = [("a", 1), ("b", "red")]
 CASTS = [("nat", None, "x"), ("small", "nat", "y"), (None, None, "z")]
 
 
 class TestNothingIsModified(unittest.TestCase):
     def setUp(self):
-        self.given = (PLACES, FUNS, WATCHES, DEEDS, STORE, CASTS)
+        self.given = (PLACES, FUNS, WATCHES, DEEDS, STORE, CASTS, RECORDS, TABLE, GOOD, PICKS, WAITS)
         self.before = copy.deepcopy(self.given)
 
     def tearDown(self):
@@ -54,9 +67,11 @@ class TestNothingIsModified(unittest.TestCase):
             chart_of(made.fun(text))
             ChartExits().due("0:0", made.fun(text), 9).clear()
         for found in (fork_faults(made), alias_faults(made), name_faults(made, reach), watched_faults(made),
-                      task_faults(made, reach)):
+                      task_faults(made, reach), branch_faults(made), loop_faults(made), stale_faults(made),
+                      share_faults(made, reach), ask_faults(made, reach), still_faults(made)):
             found.clear()
         list(made.rows()).clear()
+        list(clashes(made, reach)).clear()
         with self.assertRaises(QuickError):
             made.with_rows("main", 2, ())
         self.assertEqual(made, twin)
@@ -120,6 +135,38 @@ class TestNothingIsModified(unittest.TestCase):
         exits.due("0:0", FUNS[1], 4).append(None)
         self.assertEqual((exits.room, exits.due("0:0", FUNS[1], 4)), (0, []))
 
+    def test_walks(self):
+        for tree in FUNS:
+            for walk in walks(tree):
+                stack_due(tree, walk)
+            for number, _, _ in trees.numbered_rows(tree):
+                probe_walk(tree, number)
+                visit_bounds(tree, number)
+            parted_walk(tree)
+
+    def test_picks_and_traces(self):
+        next_picks(PICKS, [2, 2]).append(3)
+        for tasks in (WovenTasks(PICKS), WaitTasks()):
+            ready = [(), (1,)]
+            tasks.pick(0, ready, WAITS)
+            self.assertEqual(ready, [(), (1,)])
+        trace = trace_of(RECORDS)
+        before = copy.deepcopy(trace)
+        for other in list(exchanges(trace)) + list(alike_to(trace)):
+            swaps(trace, other)
+            parting_pair(trace, other)
+        for function in (normal, layers, longest_chain):
+            function(trace)
+        self.assertEqual(trace, before)
+
+    def test_wishes(self):
+        wish, twin = Wish(TABLE, GOOD), Wish(TABLE, GOOD)
+        series = [1, "red"]
+        _ = (wish(series), series in wish, wish | wish, ~wish, stumble(wish), difference(wish, Wish.even()))
+        stilled(wish)
+        self.assertTrue(wish == twin)
+        self.assertEqual((wish.tree(), series), (twin.tree(), [1, "red"]))
+
     def test_new_lists(self):
         odd_pairs().clear()
         self.assertEqual(len(odd_pairs()), 5)
@@ -135,6 +182,11 @@ class TestIntegers(unittest.TestCase):
         _, value = fork_row("nat", "small")
         found = [kinds.atom_of(1), names.read_value("1"), made.weight, trees.size_of(FUNS[1][4]), loans.room, exits.room,
                  AddressLoans(STORE).room, ChartExits().room, Mixture.of("casts").number, len(Middle(*CASTS)), value]
+        tree = FUNS[1]
+        found += [wish_number for state in Wish(TABLE, GOOD).table for wish_number in state]
+        found += [len(Wish.even()), Wish.MOST, stumble(Wish.even())[1], *Wish.even().good, *longest_chain(trace_of(RECORDS))]
+        found += [number for bounds in visit_bounds(tree, 3) if bounds for number in bounds] + list(probe_walk(tree, 1))
+        found += next_picks([0], [2])
         found += [mixture.number for mixture in all_mixtures()]
         found += [number for number, _, _ in trees.numbered_rows(FUNS[0])]
         self.assertEqual({type(number) for number in found}, {int})

@@ -24,6 +24,16 @@ FUNCTIONS = {
     "lending": ["alias_faults(program)", "name_faults(program, reach)", "watched_faults(program)",
                 "task_faults(program, reach)"],
     "charts": ["chart_of(fun)", "show_chart(fun)"],
+    "exitfaults": ["branch_faults(program)", "loop_faults(program)", "stale_faults(program)"],
+    "bodywalks": ["count_walks(fun)", "walks(fun, *, most=200)", "stack_due(fun, met)", "chart_due(fun, number)",
+                  "visit_bounds(fun, number)", "probe_walk(fun, number)", "parted_walk(fun)"],
+    "weavings": ["next_picks(picks, options)"],
+    "traces": ["trace_of(records)", "free(one, other, /)", "exchanges(trace)", "alike_traces(one, other, /)",
+               "normal(trace)", "alike_to(trace, *, most=200)", "swaps(one, other, /)", "parting_pair(one, other, /)",
+               "layers(trace)", "longest_chain(trace)"],
+    "sharing": ["clashes(program, reach)", "share_faults(program, reach)", "ask_faults(program, reach)"],
+    "wishes": ["difference(one, other, /)"],
+    "stillness": ["is_still(wish)", "stilled(wish)", "stumble(wish)", "still_faults(program)"],
 }
 LOANS = ["__init__(self, places)", "begin(self, key, target)", "value_at(self, spot)", "set_at(self, spot, value)",
          "over(self, key)", "root(self, spot)", "loans_on(self, spot)", "open_loans(self)", "room(self)"]
@@ -51,6 +61,12 @@ CLASSES = {
     ("cells", "CopyLoans"): LOANS,
     ("piles", "StackExits"): EXITS,
     ("charts", "ChartExits"): EXITS,
+    ("picking", "WovenTasks"): ["__init__(self, weaving)", "pick(self, count, ready, waits)"],
+    ("picking", "WaitTasks"): ["pick(self, count, ready, waits)"],
+    ("wishes", "Wish"): [
+        "__init__(self, table, good)", "always(kind)", "ever(kind)", "first(kind)", "last(kind)", "even()",
+        "__call__(self, values)", "__contains__(self, x)", "__len__(self)", "__eq__(self, other)", "tree(self)",
+        "__or__(self, other)", "__and__(self, other)", "__sub__(self, other)", "__invert__(self)"],
 }
 
 
