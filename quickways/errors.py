@@ -133,3 +133,11 @@ class NoEntry(QuickError):
     def __init__(self, name):
         super().__init__(f"no entry for {name}")
         self.name = name
+
+
+class RowFails(QuickError):
+    """Something in a row or a deed that fails; a run catches it and never raises it."""
+
+    def __init__(self, label):
+        super().__init__(f"failed: {label}")
+        self.label = label

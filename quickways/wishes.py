@@ -12,7 +12,9 @@ class Wish:
 
     def __init__(self, table, good):
         _require_wish(table, good)
-        self.table, self.good = _least_form(table, good)
+        least = _least_form(table, good)
+        self.table = least[0]
+        self.good = least[1]
         if len(self.table) > Wish.MOST:
             raise TooLarge(Wish.MOST)
 

@@ -2,6 +2,7 @@
 
 from quickways.errors import BadProgram
 from quickways.programs import Program
+from quickways.reading import read_program
 
 RETURN = ("return", ("lit", 0))
 PRINT = ("print", ("lit", 1))
@@ -90,3 +91,22 @@ def broken(*funs, places=(), watches=()):
 
 def places_named(*names):
     return tuple(place(text) for text in names)
+
+
+def unslashed(text):
+    """The text of a program that is written with a slash between two lines and without spaces in front."""
+    lines = []
+    depth = 0
+    for line in text.split(" / "):
+        if line in ("else", "end"):
+            lines.append("  " * (depth - 1) + line)
+            depth -= line == "end"
+        else:
+            lines.append("  " * depth + line)
+            depth += line.split(" ")[0] in ("fun", "if", "loop")
+    return "\n".join(lines)
+
+
+def written(text):
+    """The program of such a text."""
+    return read_program(unslashed(text))

@@ -8,14 +8,20 @@ from quickways.programs import Program
 from quickways.trees import closes, size_of
 
 VALUES = (0, 0, 1, 1, 1, 2, 5, -3, -50, 50, "red")
+CALM_VALUES = (0, 0, 1, 1, 1, 2, 5, -3)
+CALM_KINDS = (None,) * 24 + KINDS[:3]
 GUARDS = ("done", "fail", "always")
 
 
 class Maker:
     """Makes a function: rows that can be done at their places, as far as that is easy to see."""
 
-    def __init__(self, rng, places, callees, name, params):
+    def __init__(self, rng, places, callees, name, params, calm):
         self.rng = rng
+        # In calm programs few things fail, and so they go on for longer.
+        self.values = CALM_VALUES if calm else VALUES
+        self.kinds = CALM_KINDS if calm else (None, None, None) + KINDS
+        self.calm = calm
         self.places = places
         self.callees = callees
         self.name = name
@@ -32,13 +38,20 @@ class Maker:
         names = self.names()
         if names and self.rng.random() < 0.6:
             return ("name", self.rng.choice(names))
-        return ("lit", self.rng.choice(VALUES))
+        return ("lit", self.rng.choice(self.values))
 
     def expr(self, depth=3):
         if depth == 1 or self.rng.random() < 0.6:
             return self.simple()
         word = self.rng.choice(("add", "sub", "less", "same"))
         return (word, self.expr(depth - 1), self.expr(depth - 1))
+
+    def test(self):
+        if not self.calm:
+            return self.expr()
+        if self.rng.random() < 0.5:
+            return ("lit", self.rng.randrange(2))
+        return (self.rng.choice(("less", "same")), self.simple(), self.simple())
 
     def args(self, callee):
         params = self.callees[callee]
@@ -60,7 +73,7 @@ class Maker:
         word = self.rng.choice(words)
         names = self.names()
         if word == "let" and depth == 1:
-            row = ("let", self.fresh("x"), self.rng.choice((None, None) + KINDS), self.expr())
+            row = ("let", self.fresh("x"), self.rng.choice(self.kinds), self.expr())
             self.locals.append(row[1])
             return [row]
         if word == "set" and names:
@@ -70,7 +83,9 @@ class Maker:
         if word == "narrow" and self.lent:
             return [("narrow", self.rng.choice(self.lent), self.rng.choice(KINDS))]
         if word == "defer":
-            deed = ("set", self.rng.choice(names), self.simple()) if names and self.rng.random() < 0.5 else ("print", self.simple())
+            deed = ("print", self.simple())
+            if names and self.rng.random() < 0.5:
+                deed = ("set", self.rng.choice(names), self.simple())
             return [("defer", self.rng.choice(GUARDS), deed)]
         if word in ("call", "start") and self.callees:
             return self.calling(word, depth, names)
@@ -94,7 +109,7 @@ class Maker:
             self.left -= 1
             word = self.rng.random()
             if depth < 3 and word < 0.15:
-                found.append(("if", self.expr(), self.inner(depth), self.inner(depth)))
+                found.append(("if", self.test(), self.inner(depth), self.inner(depth)))
                 if closes(found[-1:]):
                     found.pop()
             elif depth < 3 and word < 0.25:
@@ -119,7 +134,7 @@ class Maker:
                 if args is not None:
                     rows += (("call", None, callee, args),)
         rows += (("return", self.expr(2)),)
-        return ("fun", self.name, self.params, self.rng.choice((None, None, None) + KINDS), rows)
+        return ("fun", self.name, self.params, self.rng.choice(self.kinds), rows)
 
 
 def random_wish(rng, most=3):
@@ -128,11 +143,12 @@ def random_wish(rng, most=3):
     return ("wish", table, tuple(state for state in range(many) if rng.random() < 0.5))
 
 
-def random_trees(rng):
+def random_trees(rng, calm):
     places = []
     for text in rng.sample(("a", "b", "c", "d"), rng.randrange(0, 4)):
-        value = rng.choice(VALUES)
-        places.append(("place", text, rng.choice([None] + [kind for kind in KINDS if fits(value, kind)]), value))
+        value = rng.choice(CALM_VALUES if calm else VALUES)
+        kinds = [None] * (12 if calm else 1) + [kind for kind in KINDS if fits(value, kind)]
+        places.append(("place", text, rng.choice(kinds), value))
     names = [place[1] for place in places]
     callees = {}
     funs = []
@@ -140,26 +156,27 @@ def random_trees(rng):
         params = ()
         if text != "main":
             words = [rng.choice(("worth", "lent", "lent")) for _ in range(rng.randrange(3))]
-            params = tuple((word, f"p{at}", rng.choice((None, None, None) + KINDS)) for at, word in enumerate(words))
-        funs.insert(0, Maker(rng, names, dict(callees), text, params).function())
+            kinds = CALM_KINDS if calm else (None, None, None) + KINDS
+            params = tuple((word, f"p{at}", rng.choice(kinds)) for at, word in enumerate(words))
+        funs.insert(0, Maker(rng, names, dict(callees), text, params, calm).function())
         callees[text] = params
     watches = tuple(("watch", rng.choice(names), random_wish(rng)) for _ in range(rng.randrange(3)) if names)
     return tuple(places), tuple(funs), watches
 
 
-def random_program(rng):
+def random_program(rng, calm=False):
     """A program that keeps all conditions."""
     while True:
         try:
-            return Program(*random_trees(rng))
+            return Program(*random_trees(rng, calm))
         except BadProgram:
             continue
 
 
-def random_programs(seed, many):
+def random_programs(seed, many, calm=False):
     """So many programs, the same ones for the same seed."""
     rng = random.Random(seed)
-    return [random_program(rng) for _ in range(many)]
+    return [random_program(rng, calm) for _ in range(many)]
 
 
 def random_functions(seed, many, most=16):

@@ -6,13 +6,17 @@ import unittest
 from quickways import kinds, names, trees
 from quickways.bodywalks import parted_walk, probe_walk, stack_due, visit_bounds, walks
 from quickways.castfaults import fork_faults
+from quickways.casting import casts
 from quickways.castways import MiddleCasts, RowCasts
 from quickways.cells import AddressLoans, CopyLoans
 from quickways.charts import ChartExits, chart_of
 from quickways.checkrows import CheckRow
 from quickways.errors import QuickError
 from quickways.exitfaults import branch_faults, loop_faults, stale_faults
+from quickways.filling import fill, is_filling, support, with_kinds
+from quickways.flows import demands, flows, holders, kind_of, left_out
 from quickways.lending import alias_faults, name_faults, task_faults, watched_faults
+from quickways.listing import listing
 from quickways.loandeeds import both_ways, first_untidy, parted_read, play, straightened, surrounded
 from quickways.middles import Middle
 from quickways.mixtures import Mixture, all_mixtures
@@ -21,16 +25,21 @@ from quickways.picking import WaitTasks, WovenTasks
 from quickways.piles import StackExits
 from quickways.programs import Program
 from quickways.reach import Reach, regions
+from quickways.reading import Reader, read_program, read_row
+from quickways.runs import Run, tell, tell_classes, weavings
 from quickways.sharing import ask_faults, clashes, share_faults
 from quickways.stillness import still_faults, stilled, stumble
 from quickways.traces import alike_to, exchanges, layers, longest_chain, normal, parting_pair, swaps, trace_of
+from quickways.watching import ChangeWatch, EveryWatch
 from quickways.weavings import next_picks
 from quickways.wishes import Wish, difference
+from quickways.writing import write_program, write_row
 from tests.helper import PRINT, RETURN, WISH, call, fun, lent, lent_param, lit, main, name, place, start, wait
 
 PLACES = (place("a", 5, "nat"), place("b"))
 FUNS = (main(("let", "x", None, lit(1)), start("t", "f", lent("a")), call("f", lent("b")), wait("t")),
-        fun("f", (lent_param("p", "num"),), ("narrow", "p", "small"), ("loop", 2, (PRINT,)), ("defer", "done", ("print", lit(1))),
+        fun("f", (lent_param("p", "num"),), ("narrow", "p", "small"), ("loop", 2, (PRINT,)),
+            ("defer", "done", ("print", lit(1))),
             ("print", name("p")), RETURN))
 WATCHES = (("watch", "a", WISH),)
 DEEDS = [("begin", "k", "a"), ("write", "k", 2), ("read", "a"), ("over", "k"), ("read", "a")]
@@ -39,13 +48,18 @@ TABLE = [[1, 1, 0, 0, 0, 0], [0, 0, 1, 1, 1, 1]]
 GOOD = [1]
 PICKS = [0, 1]
 WAITS = {(): (1,)}
+ANSWERS = [5, "red"]
+WEAVING = [1, 0, 2]
+KINDS = [None, "nat"]
+LINES = ["loop 2", "  print 1", "end"]
 STORE = [("a", 1), ("b", "red")]
 CASTS = [("nat", None, "x"), ("small", "nat", "y"), (None, None, "z")]
 
 
 class TestNothingIsModified(unittest.TestCase):
     def setUp(self):
-        self.given = (PLACES, FUNS, WATCHES, DEEDS, STORE, CASTS, RECORDS, TABLE, GOOD, PICKS, WAITS)
+        self.given = (PLACES, FUNS, WATCHES, DEEDS, STORE, CASTS, RECORDS, TABLE, GOOD, PICKS, WAITS, ANSWERS, WEAVING,
+                      KINDS, LINES)
         self.before = copy.deepcopy(self.given)
 
     def tearDown(self):
@@ -135,6 +149,56 @@ class TestNothingIsModified(unittest.TestCase):
         exits.due("0:0", FUNS[1], 4).append(None)
         self.assertEqual((exits.room, exits.due("0:0", FUNS[1], 4)), (0, []))
 
+    def test_kinds_that_are_left_out(self):
+        made, twin = Program(PLACES, FUNS, WATCHES), Program(*copy.deepcopy((PLACES, FUNS, WATCHES)))
+        full = fill(made)
+        for found in (holders(made), left_out(made), flows(made), casts(made), list(demands(made)),
+                      support(made, ("", "b"))):
+            found.clear()
+        with_kinds(made, KINDS)
+        self.assertTrue(is_filling(made, full))
+        kind_of(made, "f", ("name", "p"))
+        self.assertEqual((made, left_out(made)), (twin, left_out(twin)))
+
+    def test_texts(self):
+        made = Program(PLACES, FUNS, WATCHES)
+        text = write_program(made)
+        self.assertEqual(read_program(text), made)
+        list(listing(made)).clear()
+        row = read_row(LINES)
+        write_row(row).clear()
+        self.assertEqual(write_row(row), LINES)
+        reader = Reader()
+        for line in text.split("\n"):
+            reader.take(line)
+        self.assertEqual(reader.finish(), reader.finish())
+
+    def test_runs(self):
+        made, twin = Program(PLACES, FUNS, WATCHES), Program(*copy.deepcopy((PLACES, FUNS, WATCHES)))
+        for mixture in all_mixtures():
+            same = mixture.twin()
+            telling = tell(made, mixture, answers=ANSWERS, weaving=WEAVING)
+            run = Run(made, mixture, answers=ANSWERS, weaving=WEAVING)
+            while not run.ended:
+                run.ready().append("0.7")
+                run.loan_deeds().clear()
+                run.step()
+            run.back()
+            self.assertEqual((run.finish(), mixture), (telling, same))
+        tell_classes(made, answers=ANSWERS, weaving=WEAVING)
+        try:
+            list(weavings(made, Mixture(), answers=ANSWERS, most=20)).clear()
+        except QuickError:
+            pass
+        self.assertEqual(made, twin)
+
+    def test_watching(self):
+        for kind in (EveryWatch, ChangeWatch):
+            watching = kind(WATCHES, STORE)
+            watching.wrote("a", 5)
+            watching.words().clear()
+            self.assertEqual(len(watching.words()), 1)
+
     def test_walks(self):
         for tree in FUNS:
             for walk in walks(tree):
@@ -180,13 +244,23 @@ class TestIntegers(unittest.TestCase):
         exits = StackExits()
         exits.note("0:0", 1, "done", ("print", lit(1)), 1)
         _, value = fork_row("nat", "small")
-        found = [kinds.atom_of(1), names.read_value("1"), made.weight, trees.size_of(FUNS[1][4]), loans.room, exits.room,
+        found = [kinds.atom_of(1), names.read_value("1"), made.weight, trees.size_of(FUNS[1][4]), loans.room,
+                 exits.room,
                  AddressLoans(STORE).room, ChartExits().room, Mixture.of("casts").number, len(Middle(*CASTS)), value]
         tree = FUNS[1]
         found += [wish_number for state in Wish(TABLE, GOOD).table for wish_number in state]
-        found += [len(Wish.even()), Wish.MOST, stumble(Wish.even())[1], *Wish.even().good, *longest_chain(trace_of(RECORDS))]
+        found += [len(Wish.even()), Wish.MOST, stumble(Wish.even())[1], *Wish.even().good,
+                  *longest_chain(trace_of(RECORDS))]
         found += [number for bounds in visit_bounds(tree, 3) if bounds for number in bounds] + list(probe_walk(tree, 1))
         found += next_picks([0], [2])
+        run = Run(Program(PLACES, FUNS, WATCHES), Mixture.of("casts", "loans"), answers=ANSWERS)
+        run.finish()
+        found += [len(run), *run.rooms(), *(record[3] for record in run)]
+        reader = Reader()
+        reader.take("fun f()")
+        found += [len(reader), reader.depth]
+        same = Run(read_program("fun main()\n  print 1 == 1\n  print 1 < 1\n  return 0\nend"), Mixture())
+        found += [line[1] for line in same.finish()]
         found += [mixture.number for mixture in all_mixtures()]
         found += [number for number, _, _ in trees.numbered_rows(FUNS[0])]
         self.assertEqual({type(number) for number in found}, {int})

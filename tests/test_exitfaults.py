@@ -54,8 +54,10 @@ class TestBranch(unittest.TestCase):
         self.assertEqual(self.faults(when((PRINT,), (when(CLOSED, (DEFER,)),))), ["main.6"])
 
     def test_several_functions_in_reading_order(self):
-        made = program(main(when((DEFER,), (DEFER,)), call("f"), DEFER), fun("f", (), loop(2, when((), (DEFER,))), RETURN))
-        self.assertEqual(branch_faults(made), [("exits.branch", "main.2"), ("exits.branch", "main.3"), ("exits.branch", "f.3")])
+        made = program(main(when((DEFER,), (DEFER,)), call("f"), DEFER),
+                       fun("f", (), loop(2, when((), (DEFER,))), RETURN))
+        self.assertEqual(branch_faults(made),
+                         [("exits.branch", "main.2"), ("exits.branch", "main.3"), ("exits.branch", "f.3")])
 
 
 class TestLoop(unittest.TestCase):
@@ -104,12 +106,14 @@ class TestStale(unittest.TestCase):
         self.assertEqual(self.faults(("loop", 1, (setting, defer_name("y")))), [])
 
     def test_each_row_that_sets(self):
-        for row in (("ask", "y"), ("call", "y", "h", ()), ("defer", "done", ("set", "y", lit(1))), when((), (("set", "y", lit(1)),))):
+        for row in (("ask", "y"), ("call", "y", "h", ()), ("defer", "done", ("set", "y", lit(1))),
+                    when((), (("set", "y", lit(1)),))):
             self.assertEqual(self.faults(defer_name("y"), row), ["f.1"], row)
         self.assertEqual(self.faults(defer_name("y"), start("t", "h"), ("wait", "y", "t")), ["f.1"])
 
     def test_each_row_that_does_not_set(self):
-        for row in (("call", None, "h", ()), ("call", None, "g", (lent("p"),)), ("print", name("y")), ("narrow", "p", "nat"),
+        for row in (("call", None, "h", ()), ("call", None, "g", (lent("p"),)), ("print", name("y")),
+                    ("narrow", "p", "nat"),
                     ("defer", "done", ("set", "p", name("y"))), ("let", "x", None, name("y"))):
             self.assertNotIn("f.1", self.faults(defer_name("y"), row), row)
 
@@ -118,7 +122,8 @@ class TestStale(unittest.TestCase):
 
     def test_inside_rows_and_each_once(self):
         setting = ("set", "y", lit(1))
-        self.assertEqual(self.faults(loop(2, when((defer_name("y"),), (defer_name("a"),))), setting, setting), ["f.3", "f.4"])
+        self.assertEqual(self.faults(loop(2, when((defer_name("y"),), (defer_name("a"),))), setting, setting),
+                         ["f.3", "f.4"])
 
     def test_several_functions_in_reading_order(self):
         tree = fun("f", (lent_param("p"),), defer_name("p"), RETURN)

@@ -34,16 +34,29 @@ FUNCTIONS = {
     "sharing": ["clashes(program, reach)", "share_faults(program, reach)", "ask_faults(program, reach)"],
     "wishes": ["difference(one, other, /)"],
     "stillness": ["is_still(wish)", "stilled(wish)", "stumble(wish)", "still_faults(program)"],
+    "flows": ["holders(program)", "left_out(program)", "kind_of(program, fun, expr)", "demands(program)",
+              "flows(program)"],
+    "casting": ["casts(program)", "blame_of(cast)"],
+    "filling": ["with_kinds(program, kinds)", "fill(program)", "is_filling(program, other)",
+                "support(program, holder)"],
+    "expressions": ["show_expr(expr)", "read_expr(text, line=1)"],
+    "writing": ["write_program(program)", "write_row(row)"],
+    "reading": ["read_program(text)", "read_row(lines)"],
+    "listing": ["listing(program, *, width=60)"],
+    "runs": ["tell(program, mixture, *, answers=(), weaving=())", "tell_classes(program, *, answers=(), weaving=())",
+             "weavings(program, mixture, *, answers=(), most=200)"],
 }
 LOANS = ["__init__(self, places)", "begin(self, key, target)", "value_at(self, spot)", "set_at(self, spot, value)",
          "over(self, key)", "root(self, spot)", "loans_on(self, spot)", "open_loans(self)", "room(self)"]
 EXITS = ["note(self, frame, number, guard, deed, value)", "due(self, frame, fun, position)", "room(self)"]
+WATCHING = ["__init__(self, watches, places)", "wrote(self, place, value)", "words(self)"]
 VIEW = ["__init__(self, *casts)", "lent(self, read, write, label)", "reading(self, value)", "writing(self, value)"]
 CLASSES = {
     ("programs", "Program"): [
         "__init__(self, places, funs, watches)", "fun(self, name)", "place_names(self)", "is_place(self, name)",
         "is_lent(self, fun, name)", "kind(self, fun, name)", "result(self, fun)", "own_names(self, fun)", "rows(self)",
-        "view_checks(first, second)", "lend_checks(self, fun, name, other, param)", "narrow_checks(self, fun, name, kind)",
+        "view_checks(first, second)", "lend_checks(self, fun, name, other, param)",
+        "narrow_checks(self, fun, name, kind)",
         "with_rows(self, fun, number, rows)"],
     ("reach", "Reach"): [
         "__init__(self, program)", "points(self, fun, param)", "named(self, fun)", "uses(self, fun)", "sets(self, fun)",
@@ -63,6 +76,14 @@ CLASSES = {
     ("charts", "ChartExits"): EXITS,
     ("picking", "WovenTasks"): ["__init__(self, weaving)", "pick(self, count, ready, waits)"],
     ("picking", "WaitTasks"): ["pick(self, count, ready, waits)"],
+    ("watching", "EveryWatch"): WATCHING,
+    ("watching", "ChangeWatch"): WATCHING,
+    ("reading", "Reader"): ["__init__(self)", "take(self, text)", "finish(self)", "depth(self)", "__len__(self)",
+                            "__iter__(self)"],
+    ("runs", "Run"): [
+        "__init__(self, program, mixture, *, answers=(), weaving=())", "step(self)", "back(self)", "again(self)",
+        "finish(self)", "__len__(self)",
+        "__iter__(self)", "trace(self)", "ended(self)", "ready(self)", "loan_deeds(self)", "rooms(self)"],
     ("wishes", "Wish"): [
         "__init__(self, table, good)", "always(kind)", "ever(kind)", "first(kind)", "last(kind)", "even()",
         "__call__(self, values)", "__contains__(self, x)", "__len__(self)", "__eq__(self, other)", "tree(self)",

@@ -20,7 +20,8 @@ __invert__ __bool__ __contains__ __getitem__ __setitem__
 NEVER = set("register mro elements open input law version_info with_traceback add_note".split())
 WORDS = set("""type typing enum Enum Flag Generic Protocol ABC namedtuple NamedTuple dataclass overload contextmanager
 """.split())
-FORBIDDEN = (ast.Global, ast.AsyncFunctionDef, ast.Await, ast.GeneratorExp, ast.Set, ast.SetComp, ast.Div, ast.AnnAssign,
+FORBIDDEN = (ast.Global, ast.AsyncFunctionDef, ast.Await, ast.GeneratorExp, ast.Set, ast.SetComp, ast.Div,
+             ast.AnnAssign,
              ast.NamedExpr)
 AT_ONCE = {"list", "tuple", "dict", "enumerate", "zip"}
 FILES = sorted(FOLDER.glob("*.py"))
@@ -38,7 +39,8 @@ TREES = {path.stem: parsed(path) for path in FILES}
 NODES = [(stem, node) for stem, tree in TREES.items() for node in ast.walk(tree)]
 FUNCTIONS = [(stem, node) for stem, node in NODES if isinstance(node, ast.FunctionDef)]
 CLASSES = {node.name: node for _, node in NODES if isinstance(node, ast.ClassDef)}
-GENERATORS = {node.name for _, node in FUNCTIONS for part in ast.walk(node) if isinstance(part, (ast.Yield, ast.YieldFrom))}
+GENERATORS = {node.name for _, node in FUNCTIONS for part in ast.walk(node)
+              if isinstance(part, (ast.Yield, ast.YieldFrom))}
 
 
 def own_methods():
@@ -82,7 +84,8 @@ class TestLanguage(unittest.TestCase):
 
     def test_forbidden_forms(self):
         self.none([(stem, node) for stem, node in NODES if isinstance(node, FORBIDDEN)])
-        self.none([(stem, node) for stem, node in NODES if isinstance(node, ast.Constant) and isinstance(node.value, float)])
+        self.none([(stem, node) for stem, node in NODES if isinstance(node, ast.Constant)
+                   and isinstance(node.value, float)])
 
     def test_no_annotations(self):
         self.none([(stem, node) for stem, node in NODES if isinstance(node, ast.arg) and node.annotation is not None])
@@ -97,7 +100,8 @@ class TestLanguage(unittest.TestCase):
                 other = node.module.split(".")[1]
                 reached[stem].append(other)
                 defined = [part for part in TREES[other].body if not isinstance(part, ast.ImportFrom)]
-                told = [getattr(part, "name", None) or part.targets[0].id for part in defined if not isinstance(part, ast.Expr)]
+                told = [getattr(part, "name", None) or part.targets[0].id for part in defined
+                        if not isinstance(part, ast.Expr)]
                 for alias in node.names:
                     self.assertIn(alias.name, told, (stem, other))
         for stem in reached:
@@ -122,7 +126,8 @@ class TestLanguage(unittest.TestCase):
     def test_builtins_and_names(self):
         hidden = set(dir(builtins)) - BUILTINS
         self.none([(stem, node) for stem, node in NODES if isinstance(node, ast.Name) and node.id in hidden])
-        stored = [(stem, node) for stem, node in NODES if isinstance(node, ast.Name) and isinstance(node.ctx, ast.Store)]
+        stored = [(stem, node) for stem, node in NODES if isinstance(node, ast.Name)
+                  and isinstance(node.ctx, ast.Store)]
         self.none([(stem, node) for stem, node in stored if node.id in dir(builtins)])
         told = [(stem, node) for stem, node in NODES if isinstance(node, ast.arg)]
         self.none([(stem, node) for stem, node in told if node.arg in dir(builtins)])
@@ -144,7 +149,8 @@ class TestLanguage(unittest.TestCase):
 
     def test_methods_of_values(self):
         known = METHODS | own_methods()
-        calls = [(stem, node) for stem, node in NODES if isinstance(node, ast.Call) and isinstance(node.func, ast.Attribute)]
+        calls = [(stem, node) for stem, node in NODES if isinstance(node, ast.Call)
+                 and isinstance(node.func, ast.Attribute)]
         self.none([(stem, node) for stem, node in calls if node.func.attr not in known])
 
     def test_sets_are_used_on_the_spot(self):
@@ -176,7 +182,8 @@ class TestLanguage(unittest.TestCase):
             self.assertLessEqual(set(special), SPECIAL, name)
             if "__getitem__" in special:
                 self.assertIn("__iter__", special)
-            fields = {node.attr for node in ast.walk(made) if isinstance(node, ast.Attribute) and isinstance(node.ctx, ast.Store)}
+            fields = {node.attr for node in ast.walk(made) if isinstance(node, ast.Attribute)
+                      and isinstance(node.ctx, ast.Store)}
             self.assertFalse(fields & set(defined), name)
             self.assertFalse(fields & GENERATORS, name)
         self.assertNotIn("keys", methods)
@@ -189,6 +196,63 @@ class TestLanguage(unittest.TestCase):
         room = {"room"}
         self.assertFalse(decorated & plain)
         self.assertFalse((decorated - room) & fields)
+
+    def test_barred_names(self):
+        starts = ("_wall", "_pe_", "_dcw_", "_enum_", "_cm_", "_twin_re_", "_lay_", "_law_", "_stub_", "_sre")
+        whole = ("_cold", "_tuplegetter", "_outside", "_record", "_written_out", "_member_names")
+        for stem, node in NODES:
+            for field in ("id", "arg", "attr", "name"):
+                told = getattr(node, field, None)
+                if isinstance(told, str):
+                    self.assertFalse(told.startswith(starts) or told.rstrip("0123456789_") in whole, (stem, told))
+
+    def test_classes_are_not_passed_on(self):
+        for stem, node in NODES:
+            if isinstance(node, ast.Name) and node.id in CLASSES:
+                parent = node.parent
+                called = isinstance(parent, ast.Call) and parent.func is node
+                asked = isinstance(parent, ast.Call) and getattr(parent.func, "id",
+                        None) == "isinstance" and parent.args[1] is node
+                self.assertTrue(called or asked
+                                or isinstance(parent, (ast.Attribute, ast.ClassDef, ast.ExceptHandler)),
+                                (stem, node.lineno))
+
+    def test_views_are_iterated_on_the_spot(self):
+        for stem, node in NODES:
+            if isinstance(node, ast.Call):
+                told = getattr(node.func, "id", None) or getattr(node.func, "attr", None)
+                if told in ("zip", "enumerate", "reversed", "items", "keys", "values", "map"):
+                    self.assertTrue(self.on_the_spot(node), (stem, node.lineno))
+
+    def on_the_spot(self, node):
+        parent = node.parent
+        if isinstance(parent, (ast.For, ast.comprehension)):
+            return parent.iter is node
+        own = getattr(parent, "func", None)
+        if isinstance(own, ast.Attribute):
+            return own.attr == "join" and isinstance(own.value, ast.Constant)
+        ways = {"list", "tuple", "dict", "sorted", "sum", "any", "all", "enumerate", "zip", "iter"}
+        return getattr(own, "id", None) in ways and parent.args[0] is node
+
+    def test_no_keywords_for_methods_of_values(self):
+        for stem, node in NODES:
+            if isinstance(node, ast.Call) and isinstance(node.func,
+                                                         ast.Attribute) and node.func.attr in METHODS - own_methods():
+                self.assertEqual(node.keywords, [], (stem, node.lineno))
+
+    def test_tables_hold_no_lists_and_dicts(self):
+        for stem, tree in TREES.items():
+            for node in tree.body:
+                if isinstance(node, ast.Assign) and isinstance(node.value, (ast.List, ast.Dict, ast.Tuple)):
+                    inner = [part for part in ast.walk(node.value) if part is not node.value]
+                    self.none([(stem, part) for part in inner if isinstance(part, (ast.List, ast.Dict, ast.Call))])
+
+    def test_attributes_that_are_read_are_assigned(self):
+        stored = {node.attr for _, node in NODES if isinstance(node, ast.Attribute) and isinstance(node.ctx, ast.Store)}
+        values = {target.id for made in CLASSES.values() for node in made.body if isinstance(node, ast.Assign)
+                  for target in node.targets}
+        known = stored | values | own_methods() | METHODS
+        self.none([(stem, node) for stem, node in NODES if isinstance(node, ast.Attribute) and node.attr not in known])
 
     def test_generators_are_iterated_at_once(self):
         names = [node.name for _, node in FUNCTIONS if node.name in GENERATORS]

@@ -66,7 +66,8 @@ class TestNextPicks(unittest.TestCase):
         self.assertEqual(next_picks([], [4]), [1])
 
     def test_none(self):
-        for picks, options in (([], []), ([], [1, 1]), ([0], [1]), ([1, 2], [2, 3]), ([1, 0, 2], [2, 1, 3]), ([1, 2], [2, 3, 1])):
+        for picks, options in (([], []), ([], [1, 1]), ([0], [1]), ([1, 2], [2, 3]), ([1, 0, 2], [2, 1, 3]),
+                               ([1, 2], [2, 3, 1])):
             self.assertIsNone(next_picks(picks, options))
 
     def test_all_picks_once_in_ascending_order(self):

@@ -33,7 +33,8 @@ def using(text):
 class TestClashes(unittest.TestCase):
     def with_task(self, task_row, *between, behind=(), front=()):
         """The clashes of a task that does a row beside some rows."""
-        made = program(main(*front, start("t", "f"), *between, wait("t"), *behind), fun("f", (), task_row, RETURN), places=PLACES)
+        made = program(main(*front, start("t", "f"), *between, wait("t"), *behind), fun("f", (), task_row, RETURN),
+                       places=PLACES)
         return found(made)
 
     def test_set_and_use_in_both_directions(self):
@@ -56,14 +57,16 @@ class TestClashes(unittest.TestCase):
 
     def test_places_in_the_order_of_the_program(self):
         both = ("print", ("add", name("a"), ("add", name("b"), name("d"))))
-        made = program(main(start("t", "f"), both, wait("t")), fun("f", (), setting("b"), setting("a"), setting("d"), RETURN), places=PLACES)
+        made = program(main(start("t", "f"), both, wait("t")),
+                       fun("f", (), setting("b"), setting("a"), setting("d"), RETURN), places=PLACES)
         self.assertEqual(found(made), [("main.1", "main.2", ("d", "a", "b"))])
 
     def test_lent_places(self):
         tree = fun("f", (lent_param("p"),), RETURN)
         made = program(main(start("t", "f", lent("a")), using("a"), using("b"), wait("t")), tree, places=PLACES)
         self.assertEqual(found(made), [("main.1", "main.2", ("a",))])
-        made = program(main(start("t", "f", lent("a")), call("f", lent("a")), call("f", lent("b")), wait("t")), tree, places=PLACES)
+        made = program(main(start("t", "f", lent("a")), call("f", lent("a")), call("f", lent("b")), wait("t")), tree,
+                       places=PLACES)
         # The function uses all that is lent to it anywhere, so the call that lends b clashes at a, too.
         self.assertEqual(found(made), [("main.1", "main.2", ("a", "b")), ("main.1", "main.3", ("a", "b"))])
 
@@ -83,9 +86,11 @@ class TestClashes(unittest.TestCase):
     def test_start_rows_inside_rows_and_several_functions(self):
         inner = ("loop", 2, (start("t", "g"), using("a"), using("a"), wait("t")))
         made = program(main(("if", lit(1), (inner,), ()), call("f")),
-                       fun("f", (), start("t", "g"), setting("b"), wait("t"), start("u", "g"), setting("a"), wait("u"), RETURN),
+                       fun("f", (), start("t", "g"), setting("b"), wait("t"), start("u", "g"), setting("a"), wait("u"),
+                           RETURN),
                        fun("g", (), setting("a"), RETURN), places=PLACES)
-        self.assertEqual(found(made), [("main.3", "main.4", ("a",)), ("main.3", "main.5", ("a",)), ("f.4", "f.5", ("a",))])
+        self.assertEqual(found(made), [("main.3", "main.4", ("a",)), ("main.3", "main.5", ("a",)),
+                                       ("f.4", "f.5", ("a",))])
         self.assertEqual(shared(made), [("tasks.share", "main.3"), ("tasks.share", "f.4")])
 
     def test_against_the_words(self):
@@ -114,7 +119,8 @@ class TestClashes(unittest.TestCase):
 
 class TestAsks(unittest.TestCase):
     def test_ask_rows(self):
-        made = program(main(("let", "x", None, lit(0)), ("ask", "x"), start("t", "f"), ("ask", "x"), wait("t"), start("u", "g"), wait("u")),
+        made = program(main(("let", "x", None, lit(0)), ("ask", "x"), start("t", "f"), ("ask", "x"), wait("t"),
+                            start("u", "g"), wait("u")),
                        fun("f", (), ("set", "a", lit(1)), RETURN),
                        fun("g", (), ("loop", 1, (("ask", "a"),)), RETURN), places=PLACES)
         self.assertEqual(asked(made), [("tasks.ask", "main.6")])

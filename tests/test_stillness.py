@@ -101,7 +101,8 @@ class TestStilled(unittest.TestCase):
 
 class TestFaults(unittest.TestCase):
     def faults(self, *watches):
-        return still_faults(program(main(), places=places_named("a", "b"), watches=[("watch",) + watch for watch in watches]))
+        return still_faults(program(main(), places=places_named("a", "b"),
+                                    watches=[("watch",) + watch for watch in watches]))
 
     def test_in_the_order_of_the_watches(self):
         self.assertEqual(self.faults(), [])

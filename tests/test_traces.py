@@ -51,7 +51,8 @@ TRACES = [random_trace(random.Random(seed)) for seed in range(250)]
 
 class TestEvents(unittest.TestCase):
     def test_trace_of(self):
-        records = [("0", "row", "main", 1, "", ("a",), ("a", "task 0")), ("0.1", "end", "f", 0, "f.2", (), ("task 0.1",))]
+        records = [("0", "row", "main", 1, "", ("a",), ("a", "task 0")),
+                   ("0.1", "end", "f", 0, "f.2", (), ("task 0.1",))]
         wanted = (("0", ("a",), ("a", "task 0")), ("0.1", (), ("task 0.1",)))
         self.assertEqual(trace_of(records), wanted)
         self.assertEqual(trace_of(tuple(records)), wanted)
@@ -62,8 +63,10 @@ class TestEvents(unittest.TestCase):
                 (A, B, True), (A, C, True), (A, D, False), (B, D, True), (C, D, False), (A, A, False),
                 (event("0"), event("0"), False), (event("0"), event("1"), True),
                 (event("0", "a b"), event("1", "b a"), True),
-                (event("0", "a b"), event("1", "c", "d b"), False), (event("0", "a", "b c"), event("1", "c", "d"), False),
-                (event("0", "", "a b"), event("1", "", "c b"), False), (event("0", "a", "b"), event("1", "a", "c"), True)):
+                (event("0", "a b"), event("1", "c", "d b"), False),
+                (event("0", "a", "b c"), event("1", "c", "d"), False),
+                (event("0", "", "a b"), event("1", "", "c b"), False),
+                (event("0", "a", "b"), event("1", "a", "c"), True)):
             self.assertIs(free(one, other), wanted)
             self.assertIs(free(other, one), wanted)
 

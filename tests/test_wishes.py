@@ -65,7 +65,8 @@ class TestBadWishes(unittest.TestCase):
     GOOD = (0, 0, 0, 0, 0, 0)
 
     def test_states(self):
-        for bad in ((0,) * 5, (0,) * 7, (), (0, 0, 0, 0, 0, 2), (-1, 0, 0, 0, 0, 0), (0, "a", 0, 0, 0, 0), (0, None, 0, 0, 0, 0), "000000", 7):
+        for bad in ((0,) * 5, (0,) * 7, (), (0, 0, 0, 0, 0, 2), (-1, 0, 0, 0, 0, 0), (0, "a", 0, 0, 0, 0),
+                    (0, None, 0, 0, 0, 0), "000000", 7):
             self.assertEqual(raised((self.GOOD, bad), (0,)), 1, bad)
             self.assertEqual(raised((bad, bad), (9,)), 0, bad)
         self.assertIsNone(raised((self.GOOD, (1,) * 6), (0,)))
@@ -142,7 +143,8 @@ class TestLeastForms(unittest.TestCase):
                     state = wish.table[state][atom_of(value)]
                 firsts.setdefault(state, series)
             self.assertEqual(list(firsts), list(range(len(wish))))
-            accepted = {tuple(reads(wish.table, wish.good, first + more) for more in SHORT) for first in firsts.values()}
+            accepted = {tuple(reads(wish.table, wish.good, first + more) for more in SHORT)
+                        for first in firsts.values()}
             self.assertEqual(len(accepted), len(wish))
 
     def test_equal_wishes(self):
@@ -216,7 +218,8 @@ class TestKinds(unittest.TestCase):
 
 class TestOperators(unittest.TestCase):
     def test_against_the_series(self):
-        made = wishes(12, 14, 3) + [Wish.always("nat"), Wish.ever("word"), Wish.first("bit"), Wish.last("small"), Wish.even()]
+        made = wishes(12, 14, 3) + [Wish.always("nat"), Wish.ever("word"), Wish.first("bit"), Wish.last("small"),
+                                    Wish.even()]
         for one in made:
             self.same(~one, [not one(series) for series in SHORT])
             self.assertTrue(~~one == one)
