@@ -118,7 +118,12 @@ def _are_states(numbers, many):
     """Whether these are numbers of some of so many states."""
     if not isinstance(numbers, (tuple, list)):
         return False
-    return all([isinstance(number, int) and 0 <= number < many for number in numbers])
+    return all([_is_integer(number) and 0 <= number < many for number in numbers])
+
+
+def _is_integer(value):
+    """Whether a value is an integer; True and False are none."""
+    return isinstance(value, int) and not isinstance(value, bool)
 
 
 def _least_form(table, good):

@@ -66,7 +66,8 @@ class TestBadWishes(unittest.TestCase):
 
     def test_states(self):
         for bad in ((0,) * 5, (0,) * 7, (), (0, 0, 0, 0, 0, 2), (-1, 0, 0, 0, 0, 0), (0, "a", 0, 0, 0, 0),
-                    (0, None, 0, 0, 0, 0), "000000", 7):
+                    (0, None, 0, 0, 0, 0),
+                    (0, True, 0, 0, 0, 0), [0, 1, 0, 1, 0], "000000", 7):
             self.assertEqual(raised((self.GOOD, bad), (0,)), 1, bad)
             self.assertEqual(raised((bad, bad), (9,)), 0, bad)
         self.assertIsNone(raised((self.GOOD, (1,) * 6), (0,)))
@@ -77,7 +78,7 @@ class TestBadWishes(unittest.TestCase):
 
     def test_good_states(self):
         table = (self.GOOD, (1,) * 6, (2,) * 6)
-        for bad in ((3,), (-1,), (0, 0), (1, 0), (0, 2, 1), ("a",), (None,)):
+        for bad in ((3,), (-1,), (0, 0), (1, 0), (0, 2, 1), ("a",), (None,), (0, True), 1, "0"):
             self.assertEqual(raised(table, bad), 3, bad)
         for fine in ((), (0,), (2,), (0, 1, 2), [0, 2]):
             self.assertIsNone(raised(table, fine))
