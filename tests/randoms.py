@@ -5,7 +5,7 @@ import random
 from quickways.errors import BadProgram
 from quickways.kinds import KINDS, fits
 from quickways.programs import Program
-from quickways.trees import closes, size_of
+from quickways.trees import closes, numbered_rows, size_of
 
 VALUES = (0, 0, 1, 1, 1, 2, 5, -3, -50, 50, "red")
 CALM_VALUES = (0, 0, 1, 1, 1, 2, 5, -3)
@@ -186,3 +186,20 @@ def random_functions(seed, many, most=16):
     while len(found) < many:
         found.extend(fun for fun in random_program(rng).funs if size_of(fun[4]) <= most)
     return found[:many]
+
+
+def random_edit(rng, program):
+    """An edit of a program, which can be done or breaks a condition."""
+    fun = rng.choice(program.funs)
+    rows = numbered_rows(fun)
+    number, _, row = rng.choice(rows)
+    names = [place[1] for place in program.places] + [param[1] for param in fun[2]]
+    value = ("lit", rng.choice(VALUES))
+    lent = [param[1] for param in fun[2] if param[0] == "lent"]
+    made = [("print", value), ("return", value), ("loop", rng.randrange(1, 4), (row,)), ("if", value, (row,), ()),
+            ("if", ("lit", 1), (("print", value),), (row, row)), rng.choice(rows)[2],
+            ("defer", "always", ("print", ("name", rng.choice(names)) if names else value))]
+    made += [("set", text, value) for text in names] + [("ask", text) for text in names]
+    made += [("narrow", text, rng.choice(KINDS)) for text in lent]
+    made += list(row[2][:1]) if row[0] in ("if", "loop") else []
+    return (fun[1], number, rng.choice(made))
