@@ -83,6 +83,13 @@ class Run:
         ready, many, most = self._machine.sights[len(self._done)]
         return most
 
+    def twin(self):
+        """A new run that has taken the same steps; what was taken back cannot be done again in it."""
+        made = Run(self.program, self.mixture, answers=self.answers, weaving=self.weaving)
+        while len(made) < len(self._done):
+            made.step()
+        return made
+
     def options(self):
         """For each step done how many tasks a weaving could choose for it."""
         sights = self._machine.sights[:len(self._done)]

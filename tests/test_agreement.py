@@ -3,47 +3,19 @@
 import random
 import unittest
 
-from quickways.castfaults import fork_faults
+from quickways.books import Books
+from quickways.deciding import books_for
 from quickways.errors import TooLarge
-from quickways.exitfaults import branch_faults, loop_faults, stale_faults
-from quickways.lending import alias_faults, name_faults, task_faults, watched_faults
 from quickways.loandeeds import first_untidy
 from quickways.mixtures import PARTS, Mixture, all_mixtures
-from quickways.reach import Reach
+from quickways.openness import classes
 from quickways.runs import Run, tell, tell_classes, weavings
-from quickways.sharing import ask_faults, share_faults
-from quickways.stillness import still_faults
 from quickways.traces import alike_to, alike_traces, trace_of
 from quickways.trees import row_at
+from quickways.verdicts import faults, lets
 from tests.helper import written
 from tests.randoms import random_programs
-
-# The unsafe sets of rules: a part is open if one of them has no rule in force.
-UNSAFE = (
-    ("casts", ("casts.fork",)), ("loans", ("loans.alias",)), ("loans", ("loans.name",)), ("loans", ("loans.watched",)),
-    ("loans", ("loans.task", "tasks.share")), ("exits", ("exits.branch",)), ("exits", ("exits.loop",)),
-    ("exits", ("exits.stale",)),
-    ("tasks", ("tasks.share",)), ("tasks", ("tasks.ask",)), ("watch", ("watch.still",)))
-
-# For each unsafe set a program that has exactly its faults, with answers and a weaving that part the two ways.
-PARTING = (
-    ("place a = -50 / fun main() / call f(lent a) / return 0 / end / fun f(lent p) / narrow p to small "
-     "/ narrow p to nat / print p / return 0 / end", (), ()),
-    ("place a = 0 / fun main() / call f(lent a, lent a) / return 0 / end / fun f(lent p, lent q) / set p = 1 "
-     "/ return 0 / end", (), ()),
-    ("place a = 0 / fun main() / call f(lent a) / return 0 / end / fun f(lent p) / set a = 1 / return 0 / end", (), ()),
-    ("place a = 5 / fun main() / call f(lent a) / return 0 / end / fun f(lent p) / set p = 1 / set p = 5 "
-     "/ return 0 / end / watch a 001000 111111 good 0", (), ()),
-    ("place a = 0 / fun main() / start t = g(lent a) / set a = 1 / wait t / return 0 / end / fun g(lent p) "
-     "/ return 0 / end", (), ()),
-    ("fun main() / if 0 / defer always print 1 / end / return 0 / end", (), ()),
-    ("fun main() / loop 2 / defer always print 1 / end / return 0 / end", (), ()),
-    ("fun main() / let x = 1 / defer always print x / set x = 2 / return 0 / end", (), ()),
-    ("place a = 0 / fun main() / start t = g() / print a / wait t / return 0 / end / fun g() / set a = 1 "
-     "/ return 0 / end", (), (0, 1)),
-    ("fun main() / let x = 0 / start t = g(0) / ask x / wait t / return x / end / fun g(y) / ask y / return 0 / end",
-     (1, 2), (0, 0, 1)),
-    ("place a = 0 / fun main() / set a = 0 / return 0 / end / watch a 111111 000000 good 0", (), ()))
+from tests.told import UNSAFE
 
 CLEAN = ("place a nat = 5 / place b = 1 / place c = 3 / fun main() num / let x = 1 / defer always print 7 "
          "/ call f(lent a, lent b) / start t = g(3) / print a / wait x = t / "
@@ -54,12 +26,7 @@ CLEAN = ("place a nat = 5 / place b = 1 / place c = 3 / fun main() num / let x =
 
 
 def rules_broken(made):
-    reach = Reach(made)
-    found = (fork_faults(made) + alias_faults(made) + name_faults(made, reach) + watched_faults(made)
-             + task_faults(made, reach) + branch_faults(made)
-             + loop_faults(made) + stale_faults(made) + share_faults(made, reach) + ask_faults(made, reach)
-             + still_faults(made))
-    return {rule for rule, _ in found}
+    return {rule for rule, _ in faults(made)}
 
 
 def open_parts(broken):
@@ -89,22 +56,6 @@ class TestAgreement(unittest.TestCase):
                 traces.setdefault(mixture["tasks"], set()).add(run.trace)
             self.assertEqual([len(found) for found in traces.values()], [1, 1])
 
-    def test_each_unsafe_set(self):
-        for (part, rules), (text, answers, weaving) in zip(UNSAFE, PARTING):
-            made = written(text)
-            self.assertEqual(rules_broken(made), set(rules))
-            one = tell(made, Mixture(), answers=answers, weaving=weaving)
-            other = tell(made, Mixture.of(part), answers=answers, weaving=weaving)
-            self.assertNotEqual(one, other)
-            for mixture in all_mixtures():
-                wanted = one if mixture[part] == "plain" else other
-                self.assertEqual(tell(made, mixture, answers=answers, weaving=weaving), wanted, (part, mixture.number))
-
-    def test_the_first_program_blames_in_both_ways(self):
-        made = written(PARTING[0][0])
-        self.assertEqual((tell(made, Mixture())[0], tell(made, Mixture.of("casts"))[0]),
-                         (("blames", "f.1+"), ("blames", "f.2+")))
-
     def test_mixtures_that_agree_tell_the_same(self):
         rng = random.Random(93)
         parted = 0
@@ -121,6 +72,25 @@ class TestAgreement(unittest.TestCase):
                              {1})
             parted += len({next(iter(found)) for found in tellings.values()}) > 1
         self.assertGreater(parted, 20)
+
+    def test_the_classes_of_books_that_let_a_program(self):
+        rng = random.Random(98)
+        parted = several = 0
+        for made in PROGRAMS[::2]:
+            answers, weaving = chosen(rng)
+            runs = [Run(made, mixture, answers=answers, weaving=weaving) for mixture in all_mixtures()]
+            tellings = [run.finish() for run in runs]
+            largest = books_for(made)
+            for books in (largest, Books(*(rule for rule in largest if rng.random() < 0.8)), Books.none()):
+                self.assertTrue(lets(books, made))
+                for numbers in classes(books):
+                    self.assertEqual(len({tellings[number] for number in numbers}), 1)
+                    for tasks in ("plain", "quick"):
+                        same = [number for number in numbers if runs[number].mixture["tasks"] == tasks]
+                        self.assertLessEqual(len({runs[number].trace for number in same}), 1)
+                parted += len(set(tellings)) > 1
+                several += 1 < len(classes(books)) < 32
+        self.assertGreater(min(parted, several), 50)
 
 
 class TestEveryRun(unittest.TestCase):

@@ -5,12 +5,17 @@ import unittest
 
 from quickways import kinds, names, trees
 from quickways.bodywalks import parted_walk, probe_walk, stack_due, visit_bounds, walks
+from quickways.bookdesks import BookDesk
+from quickways.books import Books
 from quickways.castfaults import fork_faults
 from quickways.casting import casts
 from quickways.castways import MiddleCasts, RowCasts
 from quickways.cells import AddressLoans, CopyLoans
 from quickways.charts import ChartExits, chart_of
 from quickways.checkrows import CheckRow
+from quickways.deciding import books_for, table_agrees, witness
+from quickways.desks import Desk, Trial
+from quickways.edits import edited, moved, undoing
 from quickways.errors import QuickError
 from quickways.exitfaults import branch_faults, loop_faults, stale_faults
 from quickways.filling import fill, is_filling, support, with_kinds
@@ -18,19 +23,28 @@ from quickways.flows import demands, flows, holders, kind_of, left_out
 from quickways.lending import alias_faults, name_faults, task_faults, watched_faults
 from quickways.listing import listing
 from quickways.loandeeds import both_ways, first_untidy, parted_read, play, straightened, surrounded
+from quickways.looks import inputs, look
 from quickways.middles import Middle
 from quickways.mixtures import Mixture, all_mixtures
 from quickways.odds import blamed_texts, fork_row, normal_row, odd_pairs, parting_value, trimmed
+from quickways.openness import agree, classes, needed, open_parts, opening, safe_easings
+from quickways.partings import hinge, parting
 from quickways.picking import WaitTasks, WovenTasks
 from quickways.piles import StackExits
 from quickways.programs import Program
 from quickways.reach import Reach, regions
 from quickways.reading import Reader, read_program, read_row
+from quickways.relooking import Kept
+from quickways.rundesks import RunDesk
 from quickways.runs import Run, tell, tell_classes, weavings
+from quickways.runtext import read_run, record_text, telling_lines, write_run
 from quickways.sharing import ask_faults, clashes, share_faults
+from quickways.shrinking import shrunk, smaller
 from quickways.stillness import still_faults, stilled, stumble
+from quickways.stories import stories, story_for
 from quickways.traces import alike_to, exchanges, layers, longest_chain, normal, parting_pair, swaps, trace_of
 from quickways.watching import ChangeWatch, EveryWatch
+from quickways.verdicts import demand, faults, lets, verdict
 from quickways.weavings import next_picks
 from quickways.wishes import Wish, difference
 from quickways.writing import write_program, write_row
@@ -52,6 +66,9 @@ ANSWERS = [5, "red"]
 WEAVING = [1, 0, 2]
 KINDS = [None, "nat"]
 LINES = ["loop 2", "  print 1", "end"]
+RULES = ["loans.task", "tasks.share"]
+TERMS = ["loans", "exits.loop", "watch"]
+EDIT = ("f", 4, ("if", lit(1), (PRINT,), ()))
 STORE = [("a", 1), ("b", "red")]
 CASTS = [("nat", None, "x"), ("small", "nat", "y"), (None, None, "z")]
 
@@ -59,7 +76,7 @@ CASTS = [("nat", None, "x"), ("small", "nat", "y"), (None, None, "z")]
 class TestNothingIsModified(unittest.TestCase):
     def setUp(self):
         self.given = (PLACES, FUNS, WATCHES, DEEDS, STORE, CASTS, RECORDS, TABLE, GOOD, PICKS, WAITS, ANSWERS, WEAVING,
-                      KINDS, LINES)
+                      KINDS, LINES, RULES, TERMS, EDIT)
         self.before = copy.deepcopy(self.given)
 
     def tearDown(self):
@@ -231,6 +248,81 @@ class TestNothingIsModified(unittest.TestCase):
         self.assertTrue(wish == twin)
         self.assertEqual((wish.tree(), series), (twin.tree(), [1, "red"]))
 
+    def test_books(self):
+        books, other = Books(*TERMS), Books("tasks")
+        mixture = Mixture.of("loans")
+        made, twin = Program(PLACES, FUNS, WATCHES), Program(*copy.deepcopy((PLACES, FUNS, WATCHES)))
+        for found in (faults(made), verdict(made, books), list(books), list(needed("loans"))):
+            found.clear()
+        _ = (books | other, books & other, books - other, ~books, lets(books, made), books["exits"], str(books))
+        for part in ("casts", "loans"):
+            opening(books, part)
+            safe_easings(books, part)
+        _ = (open_parts(books), classes(books), agree(books, mixture, Mixture()))
+        _ = (table_agrees(books, mixture, Mixture()), witness(books, mixture, Mixture()))
+        demand(Books.none(), made)
+        books_for(made)["casts"] = False
+        one = Books("tasks")
+        one |= books
+        one -= books
+        self.assertEqual((str(books), str(other)), (str(Books(*TERMS)), "tasks.share tasks.ask"))
+        self.assertTrue(mixture == Mixture.of("loans"))
+        self.assertEqual((made, faults(made)), (twin, faults(twin)))
+
+    def test_edits(self):
+        made, twin = Program(PLACES, FUNS, WATCHES), Program(*copy.deepcopy((PLACES, FUNS, WATCHES)))
+        edited(made, EDIT)
+        undoing(made, EDIT)
+        moved(made, ("f", 6, PRINT), EDIT)
+        look(made, "f").clear()
+        inputs(made, "f")
+        kept = Kept(made)
+        kept.put(EDIT)
+        kept.preview(EDIT, EDIT)
+        kept.faults().clear()
+        self.assertEqual(made, twin)
+        self.assertEqual(kept.faults(), faults(edited(twin, EDIT)))
+
+    def test_stories(self):
+        for story in stories():
+            before = copy.deepcopy((story.rules, story.program, story.answers, story.weaving))
+            books, one, other = Books.none(), story.one, story.other
+            told = {"answers": list(story.answers), "weaving": list(story.weaving)}
+            list(smaller(story.program)).clear()
+            parting(story.program, one, other, **told)
+            hinge(story.program, one, other, **told)
+            shrunk(story.program, books, one, other, **told)
+            self.assertEqual((story.rules, story.program, story.answers, story.weaving), before)
+            self.assertTrue(one == story.one and other == story.other and books == Books.none())
+            self.assertEqual((tuple(told["answers"]), tuple(told["weaving"])), before[2:])
+        story_for("loans", RULES)
+
+    def test_texts_of_runs(self):
+        run = Run(Program(PLACES, FUNS, WATCHES), Mixture(), answers=ANSWERS, weaving=WEAVING)
+        run.step()
+        text = write_run(run)
+        read_run(run.program, text).finish()
+        telling_lines(read_run(run.program, text).finish()).clear()
+        for record in run:
+            record_text(record)
+        self.assertEqual(write_run(run), text)
+
+    def test_desks(self):
+        made, twin = Program(PLACES, FUNS, WATCHES), Program(*copy.deepcopy((PLACES, FUNS, WATCHES)))
+        mixture = Mixture.of("watch")
+        runs, books, desk = RunDesk(made), BookDesk(made), Desk(made)
+        runs.begin(mixture=mixture, answers=ANSWERS, weaving=WEAVING)
+        runs.order("turn casts").append("more")
+        books.put(EDIT)
+        books.verdict().clear()
+        desk.load(made, answers=ANSWERS, weaving=WEAVING)
+        desk.rehearse("step", "ease casts").clear()
+        with Trial(desk):
+            desk.put(EDIT)
+        self.assertTrue(mixture == Mixture.of("watch"))
+        self.assertEqual((made, desk.kept.program, desk.run.program), (twin, twin, twin))
+        self.assertEqual(Desk.read(desk.save()).save(), desk.save())
+
     def test_new_lists(self):
         odd_pairs().clear()
         self.assertEqual(len(odd_pairs()), 5)
@@ -256,6 +348,12 @@ class TestIntegers(unittest.TestCase):
         run = Run(Program(PLACES, FUNS, WATCHES), Mixture.of("casts", "loans"), answers=ANSWERS)
         run.finish()
         found += [len(run), *run.rooms(), *(record[3] for record in run)]
+        kept = Kept(made)
+        kept.put(EDIT)
+        found += [len(kept), kept.looks, len(Books("loans")), undoing(made, EDIT)[1], moved(made, ("f", 6, PRINT),
+                                                                                            EDIT)[1]]
+        found += [number for numbers in classes(Books("casts")) for number in numbers]
+        found += [parting(story.program, story.one, story.other)[0] for story in list(stories())[:3]]
         reader = Reader()
         reader.take("fun f()")
         found += [len(reader), reader.depth]

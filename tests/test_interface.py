@@ -4,6 +4,10 @@ import ast
 import unittest
 from pathlib import Path
 
+from quickways.bookdesks import BookDesk
+from quickways.desks import Desk
+from quickways.rundesks import RunDesk
+
 FOLDER = Path(__file__).resolve().parent.parent / "quickways"
 
 # A function with its arguments as they are written, or a class with its methods.
@@ -45,6 +49,21 @@ FUNCTIONS = {
     "listing": ["listing(program, *, width=60)"],
     "runs": ["tell(program, mixture, *, answers=(), weaving=())", "tell_classes(program, *, answers=(), weaving=())",
              "weavings(program, mixture, *, answers=(), most=200)"],
+    "runtext": ["line_text(line)", "telling_lines(telling)", "record_text(record)", "write_run(run)",
+                "read_number(text, line)", "read_run(program, text)"],
+    "rules": ["part_of(rule)", "rules_of(part)"],
+    "verdicts": ["faults(program)", "verdict(program, books)", "lets(books, program)", "demand(books, program)"],
+    "openness": ["opening(books, part)", "open_parts(books)", "agree(books, one, other, /)", "classes(books)",
+                 "needed(*parts)", "safe_easings(books, *parts)"],
+    "edits": ["edited(program, edit)", "undoing(program, edit)", "moved(program, edit, over)"],
+    "looks": ["inputs(program, fun)", "look(program, fun)"],
+    "stories": ["stories()", "story_for(part, rules)"],
+    "partings": ["parting(program, one, other, *, answers=(), weaving=())",
+                 "hinge(program, one, other, *, answers=(), weaving=())"],
+    "shrinking": ["smaller(program)", "shrunk(program, books, one, other, *, answers=(), weaving=())"],
+    "deciding": ["table_agrees(books, one, other)", "witness(books, one, other)", "books_for(program)"],
+    "runorders": ["give_run_order(desk, line)"],
+    "bookorders": ["give_book_order(desk, line)"],
 }
 LOANS = ["__init__(self, places)", "begin(self, key, target)", "value_at(self, spot)", "set_at(self, spot, value)",
          "over(self, key)", "root(self, spot)", "loans_on(self, spot)", "open_loans(self)", "room(self)"]
@@ -88,7 +107,27 @@ CLASSES = {
         "__init__(self, table, good)", "always(kind)", "ever(kind)", "first(kind)", "last(kind)", "even()",
         "__call__(self, values)", "__contains__(self, x)", "__len__(self)", "__eq__(self, other)", "tree(self)",
         "__or__(self, other)", "__and__(self, other)", "__sub__(self, other)", "__invert__(self)"],
+    ("books", "Books"): [
+        "__init__(self, *terms)", "full(cls)", "none(cls)", "read(cls, text)", "__contains__(self, x)", "__len__(self)",
+        "__iter__(self)", "__str__(self)", "__eq__(self, other)", "__getitem__(self, at)",
+        "__setitem__(self, at, worth)", "__or__(self, other)", "__and__(self, other)", "__sub__(self, other)",
+        "__invert__(self)", "__ior__(self, other)", "__isub__(self, other)"],
+    ("relooking", "Kept"): ["__init__(self, program)", "put(self, edit)", "undo(self)", "faults(self)",
+                            "preview(self, *edits)", "__len__(self)"],
+    ("stories", "Story"): ["one(self)", "other(self)", "tells(self, mixture)"],
+    ("rundesks", "RunDesk"): ["__init__(self, program)", "begin(self, *, mixture=None, answers=None, weaving=None)",
+                              "order(self, line)"],
+    ("bookdesks", "BookDesk"): ["__init__(self, program)", "put(self, edit)", "undo(self)", "verdict(self)",
+                                "order(self, line)"],
+    ("desks", "Desk"): ["__init__(self, program)", "put(self, edit)", "undo(self)", "order(self, line)",
+                        "rehearse(self, *lines)", "load(self, program, *, answers=(), weaving=())", "save(self)",
+                        "read(cls, text)"],
+    ("desks", "Trial"): ["__init__(self, desk)", "__enter__(self)"],
 }
+# The kinds of decorated methods.
+DECORATED = {"property": ["number", "read_labels", "write_labels", "room", "depth", "trace", "ended", "one", "other"],
+             "classmethod": ["of", "numbered", "read", "full", "none"],
+             "staticmethod": ["view_checks", "always", "ever", "first", "last", "even"]}
 
 
 def tree_of(module):
@@ -112,6 +151,17 @@ class TestInterface(unittest.TestCase):
             found = heads(made.body)
             for head in wanted:
                 self.assertIn(head, found, (module, name))
+
+    def test_decorated_methods(self):
+        for (module, name), wanted in CLASSES.items():
+            for node in ast.walk(tree_of(module)):
+                if isinstance(node, ast.ClassDef) and node.name == name:
+                    for made in [made for made in node.body if isinstance(made, ast.FunctionDef)]:
+                        marks = [mark for mark, names in DECORATED.items() if made.name in names]
+                        self.assertEqual([mark.id for mark in made.decorator_list], marks, (module, made.name))
+
+    def test_the_bases_of_a_desk(self):
+        self.assertEqual(Desk.__bases__, (RunDesk, BookDesk))
 
 
 if __name__ == "__main__":
