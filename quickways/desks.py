@@ -10,11 +10,11 @@ from quickways.relooking import Kept
 from quickways.rundesks import RunDesk
 from quickways.runorders import give_run_order, is_run_order
 from quickways.runs import Run
-from quickways.runtext import RUN_LINES, read_run, write_run
+from quickways.runtext import read_run, write_run
 from quickways.writing import write_program
 
-# In a saved text the line of the books stands in front of those of the run, and these in front of the program.
-FRONT_LINES = 1 + RUN_LINES
+# In a saved text the line of the books and the four lines of the run stand in front of the program.
+FRONT_LINES = 5
 
 
 class Held:

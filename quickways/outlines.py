@@ -16,7 +16,7 @@ class Outline:
         # The words of what is open; an if row is `else` behind its line `else`.
         self.opened = []
 
-    def put(self, text, line):
+    def add_line(self, text, line):
         """Puts a line behind the others; raises BadText with its number if it does not fit."""
         item = self._row_item(text, line) if self.opened else self._top_item(text, line)
         self._items.append(item)

@@ -14,7 +14,7 @@ class Reader:
 
     def take(self, text):
         """Takes the next line."""
-        self._outline.put(text, len(self._lines) + 1)
+        self._outline.add_line(text, len(self._lines) + 1)
         self._lines.append(text)
 
     def finish(self):
@@ -48,13 +48,13 @@ def read_row(lines):
     """The row of its lines alone."""
     outline = Outline()
     # The row is read as the only row of a function.
-    outline.put("fun main()", 0)
+    outline.add_line("fun main()", 0)
     for at, text in enumerate(lines):
         if at > 0 and len(outline.opened) == 1:
             raise BadText(at + 1)
-        outline.put(f"  {text}", at + 1)
+        outline.add_line(f"  {text}", at + 1)
     if len(lines) == 0 or len(outline.opened) > 1:
         raise BadText(len(lines) + 1)
-    outline.put("end", 0)
+    outline.add_line("end", 0)
     places, funs, watches = outline.trees()
     return funs[0][4][0]

@@ -123,6 +123,29 @@ class TestLanguage(unittest.TestCase):
             names = bound_names(stem)
             self.assertEqual(len(names), len(set(names)), stem)
 
+    def test_module_values_are_plain(self):
+        plain = (ast.Constant, ast.Tuple, ast.List, ast.Dict, ast.UnaryOp, ast.USub, ast.Load)
+        for stem, tree in TREES.items():
+            functions = [node.name for node in tree.body if isinstance(node, ast.FunctionDef)]
+            for made in [node for node in tree.body if isinstance(node, ast.Assign)]:
+                for node in ast.walk(made.value):
+                    self.assertTrue(isinstance(node, plain) or getattr(node, "id", None) in functions, (stem,
+                                                                                                        made.lineno))
+
+    def test_what_is_done_when_a_block_is_left(self):
+        for stem, made in FUNCTIONS:
+            if made.name == "__exit__":
+                for node in made.body:
+                    self.assertIsInstance(node, ast.Assign, (stem, node.lineno))
+                    self.assertIsInstance(node.value, ast.Attribute, (stem, node.lineno))
+                    self.assertEqual(len(node.targets), 1)
+
+    def test_super_is_called_on_the_spot(self):
+        for stem, node in NODES:
+            if isinstance(node, ast.Call) and getattr(node.func, "id", None) == "super":
+                self.assertEqual((node.args, type(node.parent), type(node.parent.parent)), ([], ast.Attribute,
+                                                                                            ast.Call))
+
     def test_builtins_and_names(self):
         hidden = set(dir(builtins)) - BUILTINS
         self.none([(stem, node) for stem, node in NODES if isinstance(node, ast.Name) and node.id in hidden])
